@@ -1,0 +1,53 @@
+// Package files: the files of a store. A file is a row of pieces, each with a sum behind it.
+package files
+
+import (
+	"tides/api"
+	"tides/disk"
+)
+
+// file: what files of all sorts have in common. The sum is of the name and of all pieces so far: so a piece that is spoilt, in another's place or in another file does not pass.
+type file struct {
+	disk *disk.Disk
+	name string
+	sum  uint32
+}
+
+func fileOf(d *disk.Disk, s Sort, number int) file {
+	name := nameOf(s, number)
+	return file{disk: d, name: name, sum: addSum(firstSum, name)}
+}
+
+func (f *file) create() api.Errno { return f.disk.Create(f.name) }
+
+// Sync makes all of the file safe.
+func (f *file) Sync() api.Errno { return f.disk.Sync(f.name) }
+
+// add adds a piece, and tells whether all of it is there: it may be, though the disk failed.
+func (f *file) add(data string) (bool, api.Errno) {
+	piece := f.seal(data)
+	before, _ := f.disk.Size(f.name)
+	e := f.disk.Append(f.name, piece)
+	after, _ := f.disk.Size(f.name)
+	return after-before == len(piece), e
+}
+
+// all reads the whole file.
+func (f *file) all() (string, api.Errno) {
+	n, e := f.disk.Size(f.name)
+	if e != api.OK {
+		return "", e
+	}
+	return f.disk.Read(f.name, 0, n)
+}
+
+func (f *file) seal(data string) string {
+	f.sum = addSum(f.sum, data)
+	return data + sumBytes(f.sum)
+}
+
+// unseal gives the data of a piece, and tells whether it is as it was written.
+func (f *file) unseal(piece string) (string, bool) {
+	data, sum := piece[:len(piece)-sumSize], piece[len(piece)-sumSize:]
+	return data, f.seal(data) == data+sum
+}
