@@ -9,10 +9,11 @@ import (
 
 // Journal: each one adds to a log of its own. The logs that lay there may end within a Put, and what is behind such an end is not to be read.
 type Journal struct {
-	disk *disk.Disk
-	last int // the number of the newest log; 0: there is none
-	puts int // in all logs that lay there
-	own  *files.Log
+	disk  *disk.Disk
+	loose []int // the numbers of the logs that lay there, till they are synced
+	last  int   // the number of the newest of them; 0: there was none
+	puts  int   // in all of them
+	own   *files.Log
 }
 
 // Open gives the journal of a disk, and the Puts that it has. It changes nothing on the disk: so a disk that is full can still be asked.
@@ -29,6 +30,7 @@ func Open(d *disk.Disk) (*Journal, []files.Put, api.Errno) {
 			return nil, nil, e
 		}
 		all = append(all, puts...)
+		j.loose = append(j.loose, number)
 		j.last = number
 	}
 	j.puts = len(all)
@@ -45,14 +47,36 @@ func (j *Journal) Add(p files.Put) (bool, api.Errno) {
 	return j.own.Add(p)
 }
 
-// begin makes the journal's own log. The log ahead is synced first: else a crash could take Puts out of it, and leave later ones here.
-func (j *Journal) begin() api.Errno {
-	if j.last > 0 {
-		if e := files.SyncLog(j.disk, j.last); e != api.OK {
+// Sync makes all Puts safe that the journal has, and the names of their logs.
+func (j *Journal) Sync() api.Errno {
+	if e := j.settle(); e != api.OK {
+		return e
+	}
+	if j.own != nil {
+		if e := j.own.Sync(); e != api.OK {
 			return e
 		}
+	}
+	return j.disk.SyncDir()
+}
+
+// begin makes the journal's own log. What lay there is settled first: else a crash could take Puts out of it, and leave later ones here.
+func (j *Journal) begin() api.Errno {
+	if e := j.settle(); e != api.OK {
+		return e
 	}
 	own, e := files.NewLog(j.disk, j.last+1, j.puts)
 	j.own = own
 	return e
+}
+
+// settle makes all logs that lay there safe: no byte of them tells whether they are, and on a disk that is a copy of another none may be.
+func (j *Journal) settle() api.Errno {
+	for _, number := range j.loose {
+		if e := files.SyncLog(j.disk, number); e != api.OK {
+			return e
+		}
+	}
+	j.loose = nil
+	return api.OK
 }

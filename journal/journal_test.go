@@ -106,6 +106,102 @@ func TestOpenBehindFailures(t *testing.T) {
 	}
 }
 
+// left: the Puts that are there behind a crash that takes all that it can.
+func left(t *testing.T, d *disk.Disk) []files.Put {
+	t.Helper()
+	c := d.Copy()
+	c.Crash(0, nil)
+	_, puts := open(t, c)
+	return puts
+}
+
+func sync(t *testing.T, j *Journal) {
+	t.Helper()
+	if e := j.Sync(); e != api.OK {
+		t.Fatalf("Sync = %d", e)
+	}
+}
+
+func TestSyncMakesAllPutsSafe(t *testing.T) {
+	d := disk.New(100000)
+	var want []files.Put
+	for round := range 12 {
+		j, _ := open(t, d)
+		if round%4 == 3 { // what lay there, ahead of the journal's own
+			sync(t, j)
+			if got := left(t, d); !slices.Equal(got, want) {
+				t.Fatalf("round %d: Sync leaves %v, want %v", round, got, want)
+			}
+		}
+		for range round % 3 {
+			p := put(len(want))
+			add(t, j, p)
+			want = append(want, p)
+		}
+		if round%2 == 1 {
+			sync(t, j)
+			if got := left(t, d); !slices.Equal(got, want) {
+				t.Fatalf("round %d: Sync leaves %v, want %v", round, got, want)
+			}
+		}
+	}
+}
+
+// On a copy of a disk nothing is safe, though later logs follow.
+func TestSyncOfACopy(t *testing.T) {
+	d := disk.New(1000)
+	for i := range 4 {
+		j, _ := open(t, d)
+		add(t, j, put(i))
+	}
+	for _, more := range []bool{false, true} {
+		c := disk.New(1000)
+		for _, name := range d.List() {
+			n, _ := d.Size(name)
+			text, _ := d.Read(name, 0, n)
+			c.Create(name)
+			c.Append(name, text)
+		}
+		j, want := open(t, c)
+		if more {
+			add(t, j, put(9))
+			want = append(want, put(9))
+		}
+		sync(t, j)
+		if got := left(t, c); len(got) < 4 || !slices.Equal(got, want) {
+			t.Errorf("Sync leaves %v, want %v", got, want)
+		}
+	}
+}
+
+// Each call of the disk that a Sync makes fails in turn, and then another journal's Sync makes good.
+func TestSyncFails(t *testing.T) {
+	for n := 1; ; n++ {
+		d := disk.New(1000)
+		j, _ := open(t, d)
+		add(t, j, put(0))
+		j, _ = open(t, d)
+		add(t, j, put(1))
+		j, want := open(t, d)
+		d.Fail(n, 0)
+		e := j.Sync()
+		if e == api.OK {
+			if n < 3 {
+				t.Errorf("Sync with call %d failing = %d", n, e)
+			}
+			break
+		}
+		if e != api.ErrIO {
+			t.Errorf("Sync with call %d failing = %d", n, e)
+		}
+		j, _ = open(t, d)
+		sync(t, j)
+		if got := left(t, d); !slices.Equal(got, want) {
+			t.Errorf("call %d failing: then Sync leaves %v, want %v", n, got, want)
+		}
+	}
+}
+
 // random: the same numbers each time.
 type random uint64
 

@@ -47,6 +47,7 @@ func TestEachCallWaitsForTheMutex(t *testing.T) {
 		"Put":   func() { s.Put(0, 0, 0) },
 		"Query": func() { s.Query(0, 0, 0) },
 		"Tick":  func() { s.Tick(0) },
+		"Sync":  func() { s.Sync() },
 		"State": func() { s.State() },
 	} {
 		ended := make(chan bool)

@@ -82,7 +82,16 @@ func (s *Store) Tick(ticks int) api.Errno {
 }
 
 // Sync makes all safe (P7).
-func (s *Store) Sync() api.Errno { return api.OK }
+func (s *Store) Sync() api.Errno {
+	s.mutex.Lock()
+	defer s.mutex.Unlock()
+	if s.readOnly {
+		return api.ErrReadOnly
+	}
+	e := s.journal.Sync()
+	s.readOnly = e != api.OK
+	return e
+}
 
 // Flush puts all in order on the disk (P8).
 func (s *Store) Flush() api.Errno { return api.OK }

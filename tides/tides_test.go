@@ -551,12 +551,16 @@ func TestManyGoroutines(t *testing.T) {
 				if l, _ := s.Query(k, 0, greatest); len(l) != i+1 {
 					t.Errorf("series %d has %d points behind %d Puts", k, len(l), i+1)
 				}
+				if e := s.Sync(); e != api.OK {
+					t.Errorf("Sync = %d", e)
+				}
 				s.State()
 			}
 		})
 	}
 	wait.Wait()
 	is(t, s, false, 50*api.MaxSeries)
+	d.Crash(0, nil)
 	again := open(t, d, 1000, 5, 0)
 	for k := range api.MaxSeries {
 		l, _ := s.Query(k, least, greatest)
