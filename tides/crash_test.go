@@ -11,256 +11,6 @@ import (
 	"tides/tides"
 )
 
-// everyCrash gives each disk that a crash may leave of one: with each beginning of what was done to the directory, and of each file's bytes, one by one and together. A disk behind a crash is all in its names and bytes: so none is given twice.
-func everyCrash(d *disk.Disk, check func(*disk.Disk)) {
-	seen := map[string]bool{}
-	crashed := func(dirs int, tails []int) *disk.Disk {
-		c := d.Copy()
-		c.Crash(dirs, tails)
-		return c
-	}
-	for dirs := range 6 {
-		bare := crashed(dirs, nil)
-		tails := make([]int, len(bare.List()))
-		for c := bare; c != nil; {
-			if text := lies(c); !seen[text] {
-				seen[text] = true
-				check(c.Copy())
-			}
-			c = nil
-			for i, name := range bare.List() {
-				tails[i]++
-				more := crashed(dirs, tails)
-				least, _ := bare.Size(name)
-				if n, _ := more.Size(name); n > least {
-					c = more
-					break
-				}
-				tails[i] = 0 // one more than there are is none
-			}
-		}
-	}
-}
-
-// aPut: what a Put was given.
-type aPut struct{ series, time, value int }
-
-const life = 20
-
-// made: what Puts have made that is alive, as a text.
-func made(puts []aPut, clock int) string {
-	var rows [api.MaxSeries]map[int]int
-	for _, p := range puts {
-		if rows[p.series] == nil {
-			rows[p.series] = map[int]int{}
-		}
-		if p.time+life > clock {
-			rows[p.series][p.time] = p.value
-		}
-	}
-	var b strings.Builder
-	for k, row := range rows {
-		var l points
-		for time, value := range row {
-			l = append(l, api.Point{Time: time, Value: value})
-		}
-		slices.SortFunc(l, func(p, q api.Point) int { return p.Time - q.Time })
-		write(&b, k, l)
-	}
-	return b.String()
-}
-
-func write(b *strings.Builder, series int, l points) {
-	for _, p := range l {
-		b.WriteString(strconv.Itoa(series) + " has " + strconv.Itoa(p.Time) + "=" + strconv.Itoa(p.Value) + "; ")
-	}
-}
-
-// run: a store, the Puts that were made on its disk, how many of them are durable, and the one in which the power was cut.
-type run struct {
-	*testing.T
-	d        *disk.Disk
-	s        *tides.Store
-	clock    int
-	readOnly bool
-	puts     []aPut
-	safe     int
-	cut      []aPut
-	next     int // counts the Puts, so that each has a value of its own, and the Opens, so that each has another Window
-}
-
-func begin(t *testing.T, room int) *run {
-	return &run{T: t, d: disk.New(room)}
-}
-
-func (r *run) tells() string {
-	r.Helper()
-	calls := r.d.Calls()
-	var b strings.Builder
-	for k := range api.MaxSeries {
-		l, e := r.s.Query(k, least, greatest)
-		if e != api.OK {
-			r.Fatalf("P5: Query = %d", e)
-		}
-		write(&b, k, l)
-	}
-	if st := r.s.State(); st != (api.State{ReadOnly: r.readOnly, Clock: r.clock}) {
-		r.Fatalf("P10: State() = %+v, want %v, %d", st, r.readOnly, r.clock)
-	}
-	if r.d.Calls() != calls {
-		r.Fatal("P2: a question makes a call of the disk")
-	}
-	return b.String()
-}
-
-// answered holds what a Put, Sync or Open was answered against what the disk was asked and answered in it.
-func (r *run) answered(what string, e api.Errno, before disk.Disk) {
-	r.Helper()
-	want := api.OK
-	switch {
-	case r.readOnly:
-		want = api.ErrReadOnly
-		if r.d.Calls() > before.Calls() {
-			r.Fatalf("P1: %s of a store that is read-only makes a call of the disk", what)
-		}
-	case r.d.Fulls() > before.Fulls():
-		want = api.ErrFull
-	case r.d.Refused() > before.Refused():
-		want = api.ErrIO
-	}
-	if e != want {
-		r.Fatalf("P10: %s = %d, want %d", what, e, want)
-	}
-}
-
-// open opens the disk, with another Window each time.
-func (r *run) open() {
-	r.Helper()
-	before := *r.d
-	r.next++
-	s, e := tides.Open(r.d, api.Config{Life: life, Window: 1 + r.next*7%19}, r.clock)
-	r.readOnly = false
-	r.answered("Open", e, before)
-	if (s == nil) != (e != api.OK) {
-		r.Fatalf("P3: Open = %v, %d", s, e)
-	}
-	r.s = s
-}
-
-func (r *run) put(p aPut) {
-	r.Helper()
-	before := *r.d
-	e := r.s.Put(p.series, p.time, p.value)
-	r.answered("Put", e, before)
-	with := append(slices.Clone(r.puts), p)
-	switch {
-	case e == api.OK:
-		r.puts = with
-	case e == api.ErrReadOnly:
-	case r.d.Dead():
-		r.readOnly = true
-		r.cut = with
-	default:
-		r.readOnly = true
-		if got := r.tells(); got == made(with, r.clock) {
-			r.puts = with
-		}
-	}
-	if got := r.tells(); got != made(r.puts, r.clock) && (r.cut == nil || got != made(r.cut, r.clock)) {
-		r.Fatalf("P4: Put(%v) = %d, behind %v: %s", p, e, r.puts, got)
-	}
-}
-
-func (r *run) sync() {
-	r.Helper()
-	before := *r.d
-	e := r.s.Sync()
-	r.answered("Sync", e, before)
-	r.readOnly = r.readOnly || e != api.OK
-	if e == api.OK {
-		r.safe = len(r.puts)
-	}
-	if got := r.tells(); got != made(r.puts, r.clock) && r.cut == nil {
-		r.Fatalf("P7: behind Sync = %d: %s, want %s", e, got, made(r.puts, r.clock))
-	}
-}
-
-func (r *run) tick(n int) {
-	r.Helper()
-	if e := r.s.Tick(n); e != api.OK {
-		r.Fatalf("P6: Tick = %d", e)
-	}
-	r.clock += n
-}
-
-// does makes calls till the power is cut: p a Put, s a Sync, t a Tick, o an Open, and O an Open with a later clock.
-func (r *run) does(script string) {
-	r.Helper()
-	for _, c := range script {
-		if r.d.Dead() {
-			return
-		}
-		switch c {
-		case 'p':
-			r.next++
-			r.put(aPut{series: r.next % 2 * 7, time: r.clock + r.next%3, value: r.next})
-		case 's':
-			r.sync()
-		case 't':
-			r.tick(9)
-		case 'O', 'o':
-			if c == 'O' {
-				r.clock += 4
-			}
-			r.open()
-			if got := made(r.puts, r.clock); r.s != nil && r.tells() != got {
-				r.Fatalf("P11: %s: opened anew: %s, want %s", script, r.tells(), got)
-			}
-		}
-	}
-}
-
-// behind opens what a crash has left, and tells how many Puts there are now: at least those that were durable.
-func (r *run) behind(c *disk.Disk) *run {
-	r.Helper()
-	n := *r
-	n.d, n.cut = c, nil
-	n.open()
-	if n.s == nil {
-		r.Fatal("P3: behind a crash no Open")
-	}
-	got := n.tells()
-	if r.cut != nil && got == made(r.cut, r.clock) {
-		n.puts = slices.Clone(r.cut)
-		return &n
-	}
-	for k := len(r.puts); k >= r.safe; k-- {
-		if got == made(r.puts[:k], r.clock) {
-			n.puts = slices.Clone(r.puts[:k])
-			return &n
-		}
-	}
-	r.Fatalf("P11: behind %v (the power was cut: %v), %d of them durable: %s", r.puts, r.cut, r.safe, got)
-	return nil
-}
-
-// eachCut does a script again and again from where begun begins it, the power cut at each call of the disk in turn, and at last at none; and gives what has come of each.
-func eachCut(begun func() *run, script string, check func(*run)) {
-	for n := 1; ; n++ {
-		r := begun()
-		r.d.Cut(n)
-		r.does(script)
-		dead := r.d.Dead()
-		check(r)
-		if !dead {
-			return
-		}
-	}
-}
-
-// scripts have Opens, Puts and Syncs in each order.
-var scripts = []string{"o", "os", "op", "ops", "opp", "opsp", "oppspps", "opospso", "opppopop", "opoposo", "ooosoo", "opsopopsop", "oppOppsOpp", "optpsptpOpsp", "oposOspsp", "opppsssppp"}
-
 func TestP11CrashAtEachCall(t *testing.T) {
 	for _, script := range scripts {
 		cuts, crashes := 0, 0
@@ -368,12 +118,11 @@ func TestP11OtherWindowsAndLaterClocks(t *testing.T) {
 	for i := range 12 {
 		r.put(aPut{series: i % 3, time: 5*i - 30, value: i})
 	}
-	r.sync()
+	r.does("s")
 	r.put(aPut{series: 0, time: -30, value: 99})
 	everyCrash(r.d, func(c *disk.Disk) {
 		for _, window := range []int{1, 2, 5, 20, 1000, 1<<62 - 1, 1 << 62} {
-			n := *r
-			n.d = c.Copy()
+			n := r.other(c.Copy())
 			for _, clock := range []int{0, 0, 1, 5, 14, 15, 44, 45, 46} {
 				n.clock = clock
 				n.s = open(t, n.d, life, window, clock)
@@ -446,23 +195,21 @@ func TestP7SyncIsOfEarlierStoresToo(t *testing.T) {
 
 // What took effect though the disk failed is durable behind the next store's Sync, and what did not never comes.
 func TestP7SyncBehindFailures(t *testing.T) {
+	begun := func() *run {
+		r := begin(t, 10000)
+		r.does("opo")
+		return r
+	}
 	for _, script := range []string{"opp", "opsp", "opspsp", "opoppsp"} {
-		for n := 1; n <= 9; n++ {
-			for part := range 25 {
-				r := begin(t, 10000)
-				r.does("opo")
-				r.d.Fail(n, part)
-				r.does(script)
-				everyCrash(r.d, func(c *disk.Disk) { r.behind(c).does("pso") })
-				r.d.Fail(0, 0)
-				r.does("os")
-				if r.safe != len(r.puts) {
-					t.Fatalf("%s, call %d failing: %d of %d Puts are durable", script, n, r.safe, len(r.puts))
-				}
-				r.does("p")
-				everyCrash(r.d, func(c *disk.Disk) { r.behind(c) })
+		eachFailure(begun, script, func(r *run) {
+			everyCrash(r.d, func(c *disk.Disk) { r.behind(c).does("pso") })
+			r.does("os")
+			if r.safe != len(r.puts) {
+				t.Fatalf("%s: %d of %d Puts are durable", script, r.safe, len(r.puts))
 			}
-		}
+			r.does("p")
+			everyCrash(r.d, func(c *disk.Disk) { r.behind(c) })
+		})
 	}
 }
 
@@ -482,14 +229,8 @@ func TestP7SyncOfACopiedDisk(t *testing.T) {
 	r := begin(t, 10000)
 	r.does("oppsoppopspopo")
 	for _, script := range []string{"os", "ops", "oposs"} {
-		n := *r
-		n.d = disk.New(10000)
-		for _, name := range r.d.List() {
-			size, _ := r.d.Size(name)
-			text, _ := r.d.Read(name, 0, size)
-			n.d.Create(name)
-			n.d.Append(name, text)
-		}
+		n := r.other(disk.New(10000))
+		lay(n.d, r.d)
 		n.does(script)
 		if n.safe != len(n.puts) {
 			t.Fatalf("%s: %d of %d Puts are durable", script, n.safe, len(n.puts))
@@ -497,70 +238,6 @@ func TestP7SyncOfACopiedDisk(t *testing.T) {
 		n.d.Crash(0, nil)
 		n.behind(n.d)
 	}
-}
-
-// Each call of the disk that a Sync makes fails in turn.
-func TestP10FailingSync(t *testing.T) {
-	for _, script := range []string{"o", "op", "opp", "oppo", "opposp", "opopo", "opopop"} {
-		for n := 1; ; n++ { // till none fails
-			r := begin(t, 10000)
-			r.does(script)
-			r.d.Fail(n, 3)
-			r.does("s")
-			failed := r.readOnly
-			r.does("sps")
-			if failed && !r.readOnly {
-				t.Fatalf("%s, call %d failing: no longer read-only", script, n)
-			}
-			if e := r.s.Put(api.MaxSeries, 0, 0); e != api.ErrSeries {
-				t.Fatalf("ErrSeries is named first: Put = %d", e)
-			}
-			r.does("tOpso")
-			everyCrash(r.d, func(c *disk.Disk) { r.behind(c) })
-			if !failed {
-				if n == 1 && len(r.puts) > 1 {
-					t.Errorf("%s: a Sync that makes no call of the disk", script)
-				}
-				break
-			}
-		}
-	}
-}
-
-func TestP10FullDiskWithSyncs(t *testing.T) {
-	for room := range 2 * api.Need {
-		r := begin(t, room)
-		r.does("o")
-		for i := 0; !r.readOnly && i < 40; i++ {
-			for _, call := range []string{"p", "s", "p"} {
-				free, fulls := room-r.d.Used(), r.d.Fulls()
-				r.does(call)
-				if r.d.Fulls() > fulls && free >= api.Need {
-					t.Fatalf("room %d, %d of it free: the disk is full in %s", room, free, call)
-				}
-			}
-		}
-		if !r.readOnly {
-			t.Fatalf("room %d is enough for 80 Puts", room)
-		}
-		r.does("ps")
-		everyCrash(r.d, func(c *disk.Disk) { r.behind(c).does("o") })
-		r.does("o")
-	}
-}
-
-// A power cut in a Put or a Sync is answered ErrIO, and all behind it ErrReadOnly.
-func TestP10CutPutAndSync(t *testing.T) {
-	eachCut(func() *run { return begin(t, 10000) }, "oppssps", func(r *run) {
-		if !r.d.Dead() {
-			return
-		}
-		calls := r.d.Calls()
-		p, e := r.s.Put(0, 0, 0), r.s.Sync()
-		if p != api.ErrReadOnly || e != api.ErrReadOnly || r.d.Calls() != calls || !r.s.State().ReadOnly {
-			t.Errorf("behind a cut: Put = %d, Sync = %d, %+v", p, e, r.s.State())
-		}
-	})
 }
 
 // P1 to P6 of a store that was opened anew, behind a crash that has torn a Put.

@@ -44,11 +44,13 @@ func TestMemoryOfDeadPoints(t *testing.T) {
 func TestEachCallWaitsForTheMutex(t *testing.T) {
 	s, _ := Open(disk.New(1<<20), api.Config{Life: 10, Window: 5}, 0)
 	for name, call := range map[string]func(){
-		"Put":   func() { s.Put(0, 0, 0) },
-		"Query": func() { s.Query(0, 0, 0) },
-		"Tick":  func() { s.Tick(0) },
-		"Sync":  func() { s.Sync() },
-		"State": func() { s.State() },
+		"Put":     func() { s.Put(0, 0, 0) },
+		"Query":   func() { s.Query(0, 0, 0) },
+		"Tick":    func() { s.Tick(0) },
+		"Sync":    func() { s.Sync() },
+		"Flush":   func() { s.Flush() },
+		"Compact": func() { s.Compact() },
+		"State":   func() { s.State() },
 	} {
 		ended := make(chan bool)
 		s.mutex.Lock()

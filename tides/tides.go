@@ -45,16 +45,9 @@ func (s *Store) Put(series int, time int, value int) api.Errno {
 	if !isSeries(series) {
 		return api.ErrSeries
 	}
-	if s.readOnly {
-		return api.ErrReadOnly
-	}
-	p := files.Put{Series: series, Point: api.Point{Time: time, Value: value}}
-	took, e := s.journal.Add(p)
-	if took {
-		s.keep(p)
-	}
-	s.readOnly = e != api.OK
-	return e
+	return s.change(func() api.Errno {
+		return s.add(files.Put{Series: series, Point: api.Point{Time: time, Value: value}})
+	})
 }
 
 // Query tells the points of a series (P5).
@@ -85,25 +78,50 @@ func (s *Store) Tick(ticks int) api.Errno {
 func (s *Store) Sync() api.Errno {
 	s.mutex.Lock()
 	defer s.mutex.Unlock()
-	if s.readOnly {
-		return api.ErrReadOnly
-	}
-	e := s.journal.Sync()
-	s.readOnly = e != api.OK
-	return e
+	return s.change(s.journal.Sync)
 }
 
 // Flush puts all in order on the disk (P8).
-func (s *Store) Flush() api.Errno { return api.OK }
+func (s *Store) Flush() api.Errno {
+	s.mutex.Lock()
+	defer s.mutex.Unlock()
+	return s.change(nothing)
+}
 
 // Compact makes room (P9).
-func (s *Store) Compact() api.Errno { return api.OK }
+func (s *Store) Compact() api.Errno {
+	s.mutex.Lock()
+	defer s.mutex.Unlock()
+	return s.change(nothing)
+}
 
 // State tells how the store is (P10).
 func (s *Store) State() api.State {
 	s.mutex.Lock()
 	defer s.mutex.Unlock()
 	return api.State{ReadOnly: s.readOnly, Clock: s.clock}
+}
+
+// change lets a call change the disk (P10). Behind a failure none may any more: a log may end within a piece then, and what is added there would not be read.
+func (s *Store) change(call func() api.Errno) api.Errno {
+	if s.readOnly {
+		return api.ErrReadOnly
+	}
+	e := call()
+	s.readOnly = e != api.OK
+	return e
+}
+
+// nothing: what a call does that is not built yet.
+func nothing() api.Errno { return api.OK }
+
+// add puts a point on the disk, and keeps it if all of it lies there, whatever the disk answered: so Query tells what a later Open will find.
+func (s *Store) add(p files.Put) api.Errno {
+	took, e := s.journal.Add(p)
+	if took {
+		s.keep(p)
+	}
+	return e
 }
 
 // keep puts a point where questions find it, unless it is not alive: as the clock does not go back, it never will be.

@@ -68,6 +68,16 @@ func lies(d *disk.Disk) string {
 	return b.String()
 }
 
+// lay lays all on a disk that lies on another.
+func lay(d *disk.Disk, other *disk.Disk) {
+	for _, name := range other.List() {
+		n, _ := other.Size(name)
+		text, _ := other.Read(name, 0, n)
+		d.Create(name)
+		d.Append(name, text)
+	}
+}
+
 func TestP1RefusedCallsChangeNothing(t *testing.T) {
 	d := disk.New(10000)
 	s := open(t, d, 10, 5, 3)
@@ -264,12 +274,7 @@ func TestP3TheStoreThatLiesThere(t *testing.T) {
 		put(t, s, 2, 7, i)
 	}
 	other := disk.New(20000)
-	for _, name := range d.List() {
-		n, _ := d.Size(name)
-		text, _ := d.Read(name, 0, n)
-		other.Create(name)
-		other.Append(name, text)
-	}
+	lay(other, d)
 	for _, d := range []*disk.Disk{d, other} {
 		s := open(t, d, 100, 1<<62, 101)
 		is(t, s, false, 101)
@@ -395,91 +400,6 @@ func TestP6TickGoesOnWhenReadOnly(t *testing.T) {
 	is(t, s, true, 4)
 	if e := s.Tick(-1); e != api.ErrTime {
 		t.Errorf("Tick(-1) = %d", e)
-	}
-}
-
-// Each call of the disk fails in turn: then the Put in which it does is answered so, the store is read-only, and Query tells what took effect.
-func TestP10FailingDisk(t *testing.T) {
-	for n := 1; n <= 12; n++ {
-		for part := range 30 {
-			d := disk.New(10000)
-			s := open(t, d, 100, 5, 0)
-			put(t, s, 0, 0, 0)
-			s = open(t, d, 100, 5, 0)
-			want := points{{}}
-			d.Fail(n, part)
-			failed := false
-			for i := 1; i <= 8; i++ {
-				refused := d.Refused()
-				e := s.Put(0, i, i)
-				switch {
-				case failed && e != api.ErrReadOnly || !failed && (e == api.ErrIO) != (d.Refused() > refused):
-					t.Fatalf("call %d failing: Put %d = %d", n, i, e)
-				case e == api.OK:
-					want = append(want, api.Point{Time: i, Value: i})
-				case e != api.ErrIO && e != api.ErrReadOnly:
-					t.Fatalf("call %d failing: Put %d = %d", n, i, e)
-				}
-				failed = failed || e == api.ErrIO
-				is(t, s, failed, 0)
-			}
-			if e := s.Put(8, 0, 0); e != api.ErrSeries {
-				t.Errorf("ErrSeries is named first: Put = %d", e)
-			}
-			has(t, s, 0, least, greatest, want...)
-			d.Fail(0, 0)
-			s = open(t, d, 100, 5, 0)
-			is(t, s, false, 0)
-			has(t, s, 0, least, greatest, want...)
-			put(t, s, 0, 99, 99)
-			has(t, open(t, d, 100, 5, 0), 0, least, greatest, append(want, api.Point{Time: 99, Value: 99})...)
-		}
-	}
-}
-
-func TestP10FullDisk(t *testing.T) {
-	for room := range 3 * api.Need {
-		d := disk.New(room)
-		s := open(t, d, 100, 5, 0)
-		var want points
-		for i := 0; ; i++ {
-			left := room - d.Used()
-			e := s.Put(0, i, i)
-			if e == api.ErrFull && d.Fulls() == 1 && left < api.Need {
-				break
-			}
-			if e != api.OK || d.Fulls() > 0 {
-				t.Fatalf("room %d, %d left: Put %d = %d", room, left, i, e)
-			}
-			want = append(want, api.Point{Time: i, Value: i})
-		}
-		is(t, s, true, 0)
-		if e := s.Put(0, 0, 9); e != api.ErrReadOnly || d.Fulls() > 1 {
-			t.Fatalf("room %d: Put = %d", room, e)
-		}
-		has(t, s, 0, least, greatest, want...)
-		has(t, open(t, d, 100, 5, 0), 0, least, greatest, want...)
-	}
-}
-
-func TestP10CutPower(t *testing.T) {
-	for n := 1; n <= 6; n++ {
-		d := disk.New(10000)
-		s := open(t, d, 100, 5, 0)
-		d.Cut(n)
-		i := 0
-		for s.Put(0, i, i) == api.OK {
-			i++
-		}
-		is(t, s, true, 0)
-		l, e := s.Query(0, 0, greatest)
-		if e != api.OK || len(l) != i && len(l) != i+1 {
-			t.Errorf("call %d cut, %d Puts: Query = %v, %d", n, i, l, e)
-		}
-		if e := s.Put(0, i, i); e != api.ErrReadOnly {
-			t.Errorf("call %d cut: then Put = %d", n, e)
-		}
-		has(t, open(t, d, 100, 5, 0), 0, 0, greatest, l...)
 	}
 }
 
