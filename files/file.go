@@ -14,7 +14,7 @@ type file struct {
 }
 
 func fileOf(d *disk.Disk, s Sort, number int) file {
-	name := nameOf(s, number)
+	name := NameOf(s, number)
 	return file{disk: d, name: name, sum: addSum(firstSum, name)}
 }
 
@@ -32,6 +32,17 @@ func (f *file) add(data string) (bool, api.Errno) {
 	return after-before == len(piece), e
 }
 
+// write makes a file of one piece, and makes it safe.
+func (f *file) write(data string) api.Errno {
+	if e := f.create(); e != api.OK {
+		return e
+	}
+	if _, e := f.add(data); e != api.OK {
+		return e
+	}
+	return f.Sync()
+}
+
 // all reads the whole file.
 func (f *file) all() (string, api.Errno) {
 	n, e := f.disk.Size(f.name)
@@ -41,6 +52,18 @@ func (f *file) all() (string, api.Errno) {
 	return f.disk.Read(f.name, 0, n)
 }
 
+// read gives the data of a file of one piece.
+func (f *file) read() (string, api.Errno) {
+	text, e := f.all()
+	if e != api.OK {
+		return "", e
+	}
+	if data, ok := f.unseal(text); ok {
+		return data, api.OK
+	}
+	return "", api.ErrCorrupt
+}
+
 func (f *file) seal(data string) string {
 	f.sum = addSum(f.sum, data)
 	return data + sumBytes(f.sum)
@@ -48,6 +71,9 @@ func (f *file) seal(data string) string {
 
 // unseal gives the data of a piece, and tells whether it is as it was written.
 func (f *file) unseal(piece string) (string, bool) {
+	if len(piece) < sumSize {
+		return "", false
+	}
 	data, sum := piece[:len(piece)-sumSize], piece[len(piece)-sumSize:]
 	return data, f.seal(data) == data+sum
 }

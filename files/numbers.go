@@ -26,3 +26,12 @@ func intOf(text string) int {
 	}
 	return int(n)
 }
+
+// intsOf gives the Ints that a text begins with; what is left is less than one.
+func intsOf(text string) []int {
+	var l []int
+	for ; len(text) >= intSize; text = text[intSize:] {
+		l = append(l, intOf(text))
+	}
+	return l
+}

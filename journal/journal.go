@@ -1,4 +1,4 @@
-// Package journal: all Puts of a disk, in the order in which they were made, in logs that follow one another.
+// Package journal: the Puts that came last, in the order in which they were made, in logs that follow one another.
 package journal
 
 import (
@@ -9,32 +9,41 @@ import (
 
 // Journal: each one adds to a log of its own. The logs that lay there may end within a Put, and what is behind such an end is not to be read.
 type Journal struct {
-	disk  *disk.Disk
-	loose []int // the numbers of the logs that lay there, till they are synced
-	last  int   // the number of the newest of them; 0: there was none
-	puts  int   // in all of them
-	own   *files.Log
+	disk *disk.Disk
+	logs []int // the numbers of those that count
+	last int   // the greatest number that was given
+	puts int   // in all logs that lay there
+	own  *files.Log
 }
 
-// Open gives the journal of a disk, and the Puts that it has. It changes nothing on the disk: so a disk that is full can still be asked.
-func Open(d *disk.Disk) (*Journal, []files.Put, api.Errno) {
-	j := &Journal{disk: d}
-	var all []files.Put
+// Open gives the journal of a disk on which the logs from a number on count, and the Puts that it has. It changes nothing on the disk: so a disk that is full can still be asked. All logs that lie there are to be safe ahead of the first Add: else a crash could take Puts out of them, and leave later ones.
+func Open(d *disk.Disk, first int) (*Journal, []files.Put, api.Errno) {
+	j := &Journal{disk: d, last: first - 1}
 	for _, name := range d.List() {
-		sort, number := files.Named(name)
-		if sort != files.LogSort {
-			return nil, nil, api.ErrCorrupt
+		if sort, number := files.Named(name); sort == files.LogSort && number >= first {
+			j.logs = append(j.logs, number)
+			j.last = number
 		}
-		puts, e := files.ReadLog(d, number, len(all))
+	}
+	puts, e := j.Puts()
+	if e != api.OK {
+		return nil, nil, e
+	}
+	j.puts = len(puts)
+	return j, puts, api.OK
+}
+
+// Puts reads all Puts of the journal from the disk: so they need not be kept in memory.
+func (j *Journal) Puts() ([]files.Put, api.Errno) {
+	var all []files.Put
+	for _, number := range j.logs {
+		puts, e := files.ReadLog(j.disk, number, len(all))
 		if e != api.OK {
-			return nil, nil, e
+			return nil, e
 		}
 		all = append(all, puts...)
-		j.loose = append(j.loose, number)
-		j.last = number
 	}
-	j.puts = len(all)
-	return j, all, api.OK
+	return all, api.OK
 }
 
 // Add adds a Put, and tells whether the journal has it: it may, though the disk failed. Behind a failure nothing more is to be added.
@@ -47,36 +56,33 @@ func (j *Journal) Add(p files.Put) (bool, api.Errno) {
 	return j.own.Add(p)
 }
 
-// Sync makes all Puts safe that the journal has, and the names of their logs.
-func (j *Journal) Sync() api.Errno {
-	if e := j.settle(); e != api.OK {
-		return e
-	}
-	if j.own != nil {
-		if e := j.own.Sync(); e != api.OK {
-			return e
-		}
-	}
-	return j.disk.SyncDir()
-}
-
-// begin makes the journal's own log. What lay there is settled first: else a crash could take Puts out of it, and leave later ones here.
+// begin makes the journal's own log.
 func (j *Journal) begin() api.Errno {
-	if e := j.settle(); e != api.OK {
+	own, e := files.NewLog(j.disk, j.Next(), j.puts)
+	if e != api.OK {
 		return e
 	}
-	own, e := files.NewLog(j.disk, j.last+1, j.puts)
 	j.own = own
-	return e
+	j.last++
+	j.logs = append(j.logs, j.last)
+	return api.OK
 }
 
-// settle makes all logs that lay there safe: no byte of them tells whether they are, and on a disk that is a copy of another none may be.
-func (j *Journal) settle() api.Errno {
-	for _, number := range j.loose {
-		if e := files.SyncLog(j.disk, number); e != api.OK {
-			return e
-		}
+// Sync makes all that was added safe.
+func (j *Journal) Sync() api.Errno {
+	if j.own == nil {
+		return api.OK
 	}
-	j.loose = nil
-	return api.OK
+	return j.own.Sync()
+}
+
+// Logs gives the numbers of all logs that the journal has.
+func (j *Journal) Logs() []int { return append([]int(nil), j.logs...) }
+
+// Next: the number from which on logs will count when those that lie there do no more.
+func (j *Journal) Next() int { return j.last + 1 }
+
+// Leave lets all Puts go: they lie elsewhere now.
+func (j *Journal) Leave() {
+	j.logs, j.puts, j.own = nil, 0, nil
 }

@@ -16,7 +16,7 @@ func put(i int) files.Put {
 func open(t *testing.T, d *disk.Disk) (*Journal, []files.Put) {
 	t.Helper()
 	calls := d.Calls()
-	j, puts, e := Open(d)
+	j, puts, e := Open(d, 1)
 	if j == nil || e != api.OK {
 		t.Fatalf("Open = %v, %d", j, e)
 	}
@@ -49,18 +49,6 @@ func TestOpenGivesAllPutsInOrder(t *testing.T) {
 	}
 }
 
-func TestOpenRefusesStrangeDisks(t *testing.T) {
-	for _, name := range []string{"x", "l", "l1", "notes", "s0000000000000000001", "l0000000000000000000"} {
-		d := disk.New(1000)
-		j, _ := open(t, d)
-		add(t, j, put(1))
-		d.Create(name)
-		if j, puts, e := Open(d); j != nil || puts != nil || e != api.ErrCorrupt {
-			t.Errorf("Open beside %q = %v, %v, %d", name, j, puts, e)
-		}
-	}
-}
-
 func TestOpenRefusesLogsWithAGap(t *testing.T) {
 	d := disk.New(1000)
 	for i := range 3 {
@@ -70,7 +58,7 @@ func TestOpenRefusesLogsWithAGap(t *testing.T) {
 	for i, name := range d.List()[:2] {
 		c := d.Copy()
 		c.Remove(name)
-		if j, puts, e := Open(c); j != nil || puts != nil || e != api.ErrCorrupt {
+		if j, puts, e := Open(c, 1); j != nil || puts != nil || e != api.ErrCorrupt {
 			t.Errorf("Open without log %d = %v, %v, %d", i+1, j, puts, e)
 		}
 	}
@@ -78,7 +66,7 @@ func TestOpenRefusesLogsWithAGap(t *testing.T) {
 
 // A journal that fails leaves the first so many of its Puts, and the next one goes on behind them.
 func TestOpenBehindFailures(t *testing.T) {
-	for n := 1; n <= 8; n++ {
+	for n := 1; n <= 7; n++ {
 		for part := range 25 {
 			d := disk.New(10000)
 			j, _ := open(t, d)
@@ -106,99 +94,83 @@ func TestOpenBehindFailures(t *testing.T) {
 	}
 }
 
-// left: the Puts that are there behind a crash that takes all that it can.
-func left(t *testing.T, d *disk.Disk) []files.Put {
-	t.Helper()
-	c := d.Copy()
-	c.Crash(0, nil)
-	_, puts := open(t, c)
-	return puts
-}
-
-func sync(t *testing.T, j *Journal) {
-	t.Helper()
-	if e := j.Sync(); e != api.OK {
-		t.Fatalf("Sync = %d", e)
-	}
-}
-
-func TestSyncMakesAllPutsSafe(t *testing.T) {
-	d := disk.New(100000)
-	var want []files.Put
-	for round := range 12 {
-		j, _ := open(t, d)
-		if round%4 == 3 { // what lay there, ahead of the journal's own
-			sync(t, j)
-			if got := left(t, d); !slices.Equal(got, want) {
-				t.Fatalf("round %d: Sync leaves %v, want %v", round, got, want)
-			}
-		}
-		for range round % 3 {
-			p := put(len(want))
-			add(t, j, p)
-			want = append(want, p)
-		}
-		if round%2 == 1 {
-			sync(t, j)
-			if got := left(t, d); !slices.Equal(got, want) {
-				t.Fatalf("round %d: Sync leaves %v, want %v", round, got, want)
-			}
-		}
-	}
-}
-
-// On a copy of a disk nothing is safe, though later logs follow.
-func TestSyncOfACopy(t *testing.T) {
-	d := disk.New(1000)
-	for i := range 4 {
+// Logs with lesser numbers do not count, and files of other sorts are not the journal's.
+func TestOpenFromANumberOn(t *testing.T) {
+	d := disk.New(10000)
+	for i := range 3 {
 		j, _ := open(t, d)
 		add(t, j, put(i))
 	}
-	for _, more := range []bool{false, true} {
-		c := disk.New(1000)
-		for _, name := range d.List() {
-			n, _ := d.Size(name)
-			text, _ := d.Read(name, 0, n)
-			c.Create(name)
-			c.Append(name, text)
+	for _, name := range []string{"i", "d", "s0000000000000000009", "notes"} {
+		d.Create(name)
+	}
+	for first := 4; first < 7; first++ {
+		c := d.Copy()
+		j, puts, e := Open(c, first)
+		if e != api.OK || len(puts) != 0 || j.Next() != first || len(j.Logs()) != 0 {
+			t.Fatalf("Open from %d = %v, %v, %d", first, j, puts, e)
 		}
-		j, want := open(t, c)
-		if more {
-			add(t, j, put(9))
-			want = append(want, put(9))
+		add(t, j, put(7))
+		add(t, j, put(8))
+		again, puts, e := Open(c, first)
+		if e != api.OK || !slices.Equal(puts, []files.Put{put(7), put(8)}) || again.Next() != first+1 || !slices.Equal(again.Logs(), []int{first}) {
+			t.Fatalf("Open from %d again = %v, %v, %d", first, again, puts, e)
 		}
-		sync(t, j)
-		if got := left(t, c); len(got) < 4 || !slices.Equal(got, want) {
-			t.Errorf("Sync leaves %v, want %v", got, want)
+	}
+	for first := 2; first < 4; first++ { // the logs ahead are part of the row
+		if j, puts, e := Open(d, first); j != nil || puts != nil || e != api.ErrCorrupt {
+			t.Errorf("Open from %d = %v, %v, %d", first, j, puts, e)
 		}
 	}
 }
 
-// Each call of the disk that a Sync makes fails in turn, and then another journal's Sync makes good.
-func TestSyncFails(t *testing.T) {
-	for n := 1; ; n++ {
-		d := disk.New(1000)
-		j, _ := open(t, d)
-		add(t, j, put(0))
-		j, _ = open(t, d)
-		add(t, j, put(1))
-		j, want := open(t, d)
-		d.Fail(n, 0)
-		e := j.Sync()
-		if e == api.OK {
-			if n < 3 {
-				t.Errorf("Sync with call %d failing = %d", n, e)
+func TestPutsAndLeave(t *testing.T) {
+	d := disk.New(10000)
+	var want []files.Put
+	first := 1
+	for round := range 12 {
+		j, _, e := Open(d, first)
+		if e != api.OK {
+			t.Fatalf("Open = %d", e)
+		}
+		for i := range 4 {
+			if got, e := j.Puts(); e != api.OK || !slices.Equal(got, want) {
+				t.Fatalf("round %d: Puts = %v, %d, want %v", round, got, e, want)
 			}
-			break
+			if i == 2 && round%3 == 2 {
+				first = j.Next()
+				j.Leave()
+				want = nil
+				if got, e := j.Puts(); e != api.OK || len(got) != 0 || j.Next() != first {
+					t.Fatalf("behind Leave: Puts = %v, %d", got, e)
+				}
+			}
+			add(t, j, put(round*4+i))
+			want = append(want, put(round*4+i))
 		}
-		if e != api.ErrIO {
-			t.Errorf("Sync with call %d failing = %d", n, e)
+	}
+}
+
+func TestSyncMakesAllThatWasAddedSafe(t *testing.T) {
+	d := disk.New(1000)
+	j, _ := open(t, d)
+	if e := j.Sync(); e != api.OK || d.Calls() != 0 {
+		t.Fatalf("Sync of nothing = %d, in %d calls", e, d.Calls())
+	}
+	for i := range 3 {
+		add(t, j, put(i))
+		if e := j.Sync(); e != api.OK {
+			t.Fatalf("Sync = %d", e)
 		}
-		j, _ = open(t, d)
-		sync(t, j)
-		if got := left(t, d); !slices.Equal(got, want) {
-			t.Errorf("call %d failing: then Sync leaves %v, want %v", n, got, want)
-		}
+	}
+	add(t, j, put(3))
+	d.Fail(1, 0)
+	if e := j.Sync(); e != api.ErrIO {
+		t.Errorf("Sync that fails = %d", e)
+	}
+	d.Crash(1, nil)
+	if _, puts := open(t, d); len(puts) != 3 {
+		t.Errorf("behind a crash there are %v", puts)
 	}
 }
 
@@ -210,7 +182,7 @@ func (r *random) below(n int) int {
 	return int(*r>>33) % n
 }
 
-// Whatever a crash takes, a beginning of what was put is left: of the Puts that were left ahead of it, and of those made since.
+// Whatever a crash takes, a beginning of what was put is left: of the Puts that were left ahead of it, and of those made since. What lay there at an Open is safe ahead of its first Add.
 func TestOpenBehindCrashes(t *testing.T) {
 	for seed := range 3000 {
 		r := random(seed)
@@ -223,6 +195,9 @@ func TestOpenBehindCrashes(t *testing.T) {
 				t.Fatalf("seed %d: Open gives %v behind %v", seed, puts, have)
 			}
 			have = puts
+			for _, name := range d.List() {
+				d.Sync(name)
+			}
 			d.Cut(r.below(12))
 			for range r.below(8) {
 				p := put(next)

@@ -12,19 +12,55 @@ import (
 )
 
 func TestP11CrashAtEachCall(t *testing.T) {
-	for _, script := range scripts {
-		cuts, crashes := 0, 0
-		eachCut(func() *run { return begin(t, 10000) }, script, func(r *run) {
-			cuts++
-			everyCrash(r.d, func(c *disk.Disk) {
-				crashes++
-				r.behind(c).does("oOppospO")
+	for _, script := range slices.Concat(scripts, orderly) {
+		t.Run(script, func(t *testing.T) {
+			t.Parallel()
+			cuts, crashes := 0, 0
+			eachCut(func() *run { return begin(t, 10000) }, script, func(r *run) {
+				cuts++
+				everyCrash(r.d, func(c *disk.Disk) {
+					crashes++
+					other := c.Copy()
+					r.behind(c).does("oOppospO")
+					n := r.behind(other)
+					n.does([]string{"qfpc", "cpqf", "fOc", "psOcc"}[crashes%4])
+					n.keeps()
+				})
 			})
+			if strings.Contains(script, "p") && (cuts < 4 || crashes < 30) {
+				t.Errorf("%d cuts and %d crashes are too few", cuts, crashes)
+			}
 		})
-		if strings.Contains(script, "p") && (cuts < 4 || crashes < 30) {
-			t.Errorf("%s: %d cuts and %d crashes are too few", script, cuts, crashes)
-		}
 	}
+}
+
+// keeps holds a store on which all is durable to what a crash leaves that takes all that it can.
+func (r *run) keeps() {
+	r.Helper()
+	if r.safe != len(r.puts) {
+		r.Fatalf("P7 to P9: %d of %d Puts are durable", r.safe, len(r.puts))
+	}
+	r.d.Crash(0, nil)
+	r.behind(r.d)
+}
+
+// A Flush, and a Compact behind it, cut at each call: of each file, and of the directory, each beginning.
+func TestP11EachByteOfAFlush(t *testing.T) {
+	eachCut(func() *run {
+		r := begin(t, 10000)
+		r.does("oppfqqsp")
+		return r
+	}, "fpc", func(r *run) {
+		for dirs := range 40 {
+			for i, end := range unsafe(r.d, dirs) {
+				for k := range end + 1 {
+					tails := make([]int, i+1)
+					tails[i] = k
+					r.behind(crashed(r.d, dirs, tails)).does("pfo")
+				}
+			}
+		}
+	})
 }
 
 // The second crash strikes what the first has left: in the Open behind it, and in what is put then.
@@ -33,16 +69,31 @@ func TestP11TwoCrashes(t *testing.T) {
 		for _, second := range []string{"opps", "spos"} {
 			t.Run(first+" "+second, func(t *testing.T) {
 				t.Parallel()
-				eachCut(func() *run { return begin(t, 10000) }, first, func(r *run) {
-					everyCrash(r.d, func(c *disk.Disk) {
-						eachCut(func() *run { return r.behind(c.Copy()) }, second, func(r *run) {
-							everyCrash(r.d, func(c *disk.Disk) { r.behind(c).does("o") })
-						})
-					})
-				})
+				twoCrashes(t, first, second, 1)
 			})
 		}
 	}
+	for _, script := range [][2]string{{"opf", "pf"}, {"opf", "oc"}, {"oppf", "pc"}, {"opc", "pf"}, {"opfp", "fc"}, {"oqfq", "qc"}} {
+		t.Run(script[0]+" "+script[1], func(t *testing.T) {
+			t.Parallel()
+			twoCrashes(t, script[0], script[1], 37) // there are too many
+		})
+	}
+}
+
+// twoCrashes strikes with the second crash one of so many disks that the first may leave.
+func twoCrashes(t *testing.T, first, second string, of int) {
+	n := 0
+	eachCut(func() *run { return begin(t, 10000) }, first, func(r *run) {
+		everyCrash(r.d, func(c *disk.Disk) {
+			if n++; n%of != 0 {
+				return
+			}
+			eachCut(func() *run { return r.behind(c.Copy()) }, second, func(r *run) {
+				everyCrash(r.d, func(c *disk.Disk) { r.behind(c).does("o") })
+			})
+		})
+	})
 }
 
 func TestP11ManyCrashes(t *testing.T) {
@@ -53,7 +104,7 @@ func TestP11ManyCrashes(t *testing.T) {
 		for range 12 {
 			script := ""
 			for range x.below(14) {
-				script += string("ppppppsstoO"[x.below(11)])
+				script += string("pppppqqsstoOfc"[x.below(14)])
 			}
 			r.d.Cut(x.below(30))
 			r.does(script)
@@ -69,7 +120,7 @@ func TestP11ManyCrashes(t *testing.T) {
 
 // The power is cut within an Open, and within the next one, and the next one has all that was durable.
 func TestP11CutWithinOpen(t *testing.T) {
-	for _, script := range []string{"o", "opp", "opps", "oppspp", "opposppop"} {
+	for _, script := range []string{"o", "opp", "opps", "oppspp", "opposppop", "oppf", "opfpc", "oqcqfpp"} {
 		begun := func() *run {
 			r := begin(t, 10000)
 			r.does(script)
@@ -117,6 +168,9 @@ func TestP11OtherWindowsAndLaterClocks(t *testing.T) {
 	r.open()
 	for i := range 12 {
 		r.put(aPut{series: i % 3, time: 5*i - 30, value: i})
+		if i == 4 || i == 7 {
+			r.does("f")
+		}
 	}
 	r.does("s")
 	r.put(aPut{series: 0, time: -30, value: 99})
@@ -130,6 +184,8 @@ func TestP11OtherWindowsAndLaterClocks(t *testing.T) {
 				if got, want := n.tells(), made(r.puts, clock); got != want {
 					t.Fatalf("Window %d, clock %d: %s, want %s", window, clock, got, want)
 				}
+				n.window = window
+				n.does(string("scf"[clock%3]))
 			}
 		}
 	})
@@ -153,7 +209,15 @@ func TestP11EdgesOfTheNumbers(t *testing.T) {
 		if window < 1 || window > 1<<62 {
 			continue
 		}
-		has(t, open(t, d, 1<<62, window, least), 7, least, greatest, want...)
+		for _, order := range []func(*tides.Store) api.Errno{(*tides.Store).Sync, (*tides.Store).Flush, (*tides.Store).Compact} {
+			s := open(t, d, 1<<62, window, least)
+			has(t, s, 7, least, greatest, want...)
+			if e := order(s); e != api.OK {
+				t.Fatalf("Window %d: %d", window, e)
+			}
+			has(t, s, 7, least, greatest, want...)
+			d.Crash(0, nil)
+		}
 	}
 	for _, clock := range edges {
 		var left points
@@ -183,7 +247,7 @@ func TestP7WhatIsSyncedIsDurable(t *testing.T) {
 
 // A Sync is of every Put ahead of it: of those of stores that were open earlier too.
 func TestP7SyncIsOfEarlierStoresToo(t *testing.T) {
-	for _, script := range []string{"oppos", "oppops", "oppopos", "opopopos", "opsopos", "opooos", "opposos"} {
+	for _, script := range []string{"oppos", "oppops", "oppopos", "opopopos", "opsopos", "opooos", "opposos", "opfos", "opfpops", "opfpocops"} {
 		r := begin(t, 10000)
 		r.does(script)
 		if r.safe != len(r.puts) {
@@ -200,7 +264,7 @@ func TestP7SyncBehindFailures(t *testing.T) {
 		r.does("opo")
 		return r
 	}
-	for _, script := range []string{"opp", "opsp", "opspsp", "opoppsp"} {
+	for _, script := range []string{"opp", "opsp", "opspsp", "opoppsp", "ofpp", "opcp"} {
 		eachFailure(begun, script, func(r *run) {
 			everyCrash(r.d, func(c *disk.Disk) { r.behind(c).does("pso") })
 			r.does("os")
@@ -227,8 +291,8 @@ func TestP7SyncOfNothing(t *testing.T) {
 // On a disk that is a copy of another nothing was synced: a Sync makes all of it safe that the store has.
 func TestP7SyncOfACopiedDisk(t *testing.T) {
 	r := begin(t, 10000)
-	r.does("oppsoppopspopo")
-	for _, script := range []string{"os", "ops", "oposs"} {
+	r.does("oppsoppfpopspopo")
+	for _, script := range []string{"os", "ops", "oposs", "of", "oc", "opf", "oqqc", "ospofs"} {
 		n := r.other(disk.New(10000))
 		lay(n.d, r.d)
 		n.does(script)
@@ -271,11 +335,11 @@ func TestP1ToP6OpenedAnew(t *testing.T) {
 		if n.tells() != told || c.Calls() != calls || lies(c) != before {
 			t.Fatalf("P1: what is refused changes something: %s, before it %s", n.tells(), told)
 		}
-		n.put(aPut{series: 3, time: 1, value: 5})
-		n.put(aPut{series: 3, time: 1, value: 6})
+		n.put(aPut{series: 3, time: 0, value: 5})
+		n.put(aPut{series: 3, time: 0, value: 6})
 		n.tick(life)
-		has(t, n.s, 3, least, greatest, api.Point{Time: 1, Value: 6})
-		has(t, n.s, 3, 2, greatest)
+		has(t, n.s, 3, least, greatest, api.Point{Time: 0, Value: 6})
+		has(t, n.s, 3, 1, greatest)
 		n.tick(1)
 		has(t, n.s, 3, least, greatest)
 	})

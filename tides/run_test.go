@@ -1,6 +1,8 @@
 package tides_test
 
 import (
+	"cmp"
+	"math/big"
 	"slices"
 	"strconv"
 	"strings"
@@ -13,39 +15,77 @@ import (
 
 // everyCrash gives each disk that a crash may leave of one: with each beginning of what was done to the directory, and of each file's bytes, one by one and together. A disk behind a crash is all in its names and bytes: so none is given twice.
 func everyCrash(d *disk.Disk, check func(*disk.Disk)) {
-	seen := map[string]bool{}
-	crashed := func(dirs int, tails []int) *disk.Disk {
-		c := d.Copy()
-		c.Crash(dirs, tails)
-		return c
-	}
-	for dirs := range 12 {
-		bare := crashed(dirs, nil)
-		tails := make([]int, len(bare.List()))
-		for c := bare; c != nil; {
+	begun, seen := map[string]bool{}, map[string]bool{}
+	for dirs := range min(d.Calls(), 40) + 1 {
+		ends := unsafe(d, dirs)
+		if text := lies(crashed(d, dirs, nil)) + lies(crashed(d, dirs, ends)); begun[text] {
+			continue // as many changes of the directory ahead, or none that matter between
+		} else {
+			begun[text] = true
+		}
+		eachTails(crashed(d, dirs, nil).List(), ends, func(tails []int) {
+			c := crashed(d, dirs, tails)
 			if text := lies(c); !seen[text] {
 				seen[text] = true
-				check(c.Copy())
+				check(c)
 			}
-			c = nil
-			for i, name := range bare.List() {
-				tails[i]++
-				more := crashed(dirs, tails)
-				least, _ := bare.Size(name)
-				if n, _ := more.Size(name); n > least {
-					c = more
-					break
-				}
-				tails[i] = 0 // one more than there are is none
+		})
+	}
+}
+
+func crashed(d *disk.Disk, dirs int, tails []int) *disk.Disk {
+	c := d.Copy()
+	c.Crash(dirs, tails)
+	return c
+}
+
+// unsafe: how many bytes of each file a crash may take, where it leaves so much of the directory.
+func unsafe(d *disk.Disk, dirs int) []int {
+	var ends []int
+	bare := crashed(d, dirs, nil)
+	for _, name := range bare.List() {
+		least, _ := bare.Size(name)
+		now, _ := d.Size(name)
+		n := max(now-least, 0) // so many, if it is the same file now
+		for ; ; n++ {
+			if more, _ := crashed(d, dirs, append(ends, n+1)).Size(name); more == least { // one more than there are is none
+				break
+			}
+		}
+		ends = append(ends, n)
+	}
+	return ends
+}
+
+// eachTails gives the beginnings of all files together. Of a file that is written at once it gives but some: TestP11EachByteOfAFlush gives all.
+func eachTails(names []string, ends []int, check func(tails []int)) {
+	tails := make([]int, len(ends))
+	var from func(i int)
+	from = func(i int) {
+		if i == len(tails) {
+			check(tails)
+			return
+		}
+		for k := range ends[i] + 1 {
+			if names[i][0] == 'l' || k < 2 || k == ends[i]/2 || k > ends[i]-2 {
+				tails[i] = k
+				from(i + 1)
 			}
 		}
 	}
+	from(0)
 }
 
 // aPut: what a Put was given.
 type aPut struct{ series, time, value int }
 
 const life = 20
+
+// lives: alive, with this life.
+func lives(time, clock int) bool { return time > greatest-life || time+life > clock }
+
+// windows of the stores that a run opens, one behind the other.
+var windows = [...]int{1 << 62, 2, 5, 1, 13, 3}
 
 // made: what Puts have made that is alive, as a text.
 func made(puts []aPut, clock int) string {
@@ -54,7 +94,7 @@ func made(puts []aPut, clock int) string {
 		if rows[p.series] == nil {
 			rows[p.series] = map[int]int{}
 		}
-		if p.time+life > clock {
+		if lives(p.time, clock) {
 			rows[p.series][p.time] = p.value
 		}
 	}
@@ -64,7 +104,7 @@ func made(puts []aPut, clock int) string {
 		for time, value := range row {
 			l = append(l, api.Point{Time: time, Value: value})
 		}
-		slices.SortFunc(l, func(p, q api.Point) int { return p.Time - q.Time })
+		slices.SortFunc(l, func(p, q api.Point) int { return cmp.Compare(p.Time, q.Time) })
 		write(&b, k, l)
 	}
 	return b.String()
@@ -76,6 +116,27 @@ func write(b *strings.Builder, series int, l points) {
 	}
 }
 
+// most: how many bytes the files may have behind a Compact (P9): 300, and 150 for each point that must be kept.
+func most(puts []aPut, clock, window int) int {
+	windowOf := func(time int) string {
+		return new(big.Int).Div(big.NewInt(int64(time)), big.NewInt(int64(window))).String() // (of a window above 0: rounded down)
+	}
+	places, windows := map[aPut]bool{}, map[string]bool{}
+	for _, p := range puts {
+		places[aPut{series: p.series, time: p.time}] = true
+		if lives(p.time, clock) {
+			windows[windowOf(p.time)] = true
+		}
+	}
+	n := 300
+	for p := range places {
+		if windows[windowOf(p.time)] {
+			n += 150
+		}
+	}
+	return n
+}
+
 // run: a store, the Puts that were made on its disk, how many of them are durable, and, if one took effect though the power was cut in it, these and that one.
 type run struct {
 	*testing.T
@@ -83,6 +144,7 @@ type run struct {
 	room     int
 	s        *tides.Store
 	clock    int
+	window   int
 	readOnly bool
 	puts     []aPut
 	safe     int
@@ -92,7 +154,7 @@ type run struct {
 }
 
 func begin(t *testing.T, room int) *run {
-	return &run{T: t, d: disk.New(room), room: room}
+	return &run{T: t, d: disk.New(room), room: room, clock: -1}
 }
 
 // other: the same run, which goes on with another disk.
@@ -160,7 +222,8 @@ func (r *run) open() {
 	r.Helper()
 	before := r.asked()
 	r.next++
-	s, e := tides.Open(r.d, api.Config{Life: life, Window: 1 + r.next*7%19}, r.clock)
+	r.window = windows[r.next%len(windows)]
+	s, e := tides.Open(r.d, api.Config{Life: life, Window: r.window}, r.clock)
 	r.readOnly = false
 	r.answered("Open", e, before)
 	if (s == nil) != (e != api.OK) {
@@ -199,15 +262,18 @@ func (r *run) orders(what string, call func() api.Errno) {
 	before, told := r.asked(), r.tells()
 	e := call()
 	r.answered(what, e, before)
-	if e == api.OK && what == "Sync" {
+	if e == api.OK {
 		r.safe = len(r.puts)
+	}
+	if n := most(r.puts, r.clock, r.window); e == api.OK && what == "Compact" && r.d.Used() > n {
+		r.Fatalf("P9: behind a Compact there are %d bytes, more than %d", r.d.Used(), n)
 	}
 	if e == api.ErrIO || e == api.ErrFull {
 		r.readOnly = true
 		r.refuses()
 	}
 	if got := r.tells(); got != told {
-		r.Fatalf("P7: behind %s = %d: %s, want %s", what, e, got, told)
+		r.Fatalf("P7 to P9: behind %s = %d: %s, want %s", what, e, got, told)
 	}
 }
 
@@ -240,7 +306,7 @@ func (r *run) refuses() {
 	}
 }
 
-// does makes calls till the power is cut: p a Put, s a Sync, f a Flush, c a Compact, t a Tick, o an Open, and O an Open with a later clock.
+// does makes calls till the power is cut: p a Put of what is alive, q one of a time further off, which may be dead, s a Sync, f a Flush, c a Compact, t a Tick, o an Open, and O an Open with a later clock.
 func (r *run) does(script string) {
 	r.Helper()
 	for _, c := range script {
@@ -267,6 +333,13 @@ func (r *run) calls(c rune) {
 	case 'p':
 		r.next++
 		r.put(aPut{series: r.next % 2 * 7, time: r.clock + r.next%3, value: r.next})
+	case 'q':
+		r.next++
+		time := r.clock + r.next*37%80 - 50
+		if r.next%16 == 0 {
+			time = edges[r.next/16%len(edges)]
+		}
+		r.put(aPut{series: r.next % api.MaxSeries, time: time, value: r.next})
 	case 's':
 		r.orders("Sync", r.s.Sync)
 	case 'f':
@@ -341,4 +414,7 @@ func eachFailure(begun func() *run, script string, check func(*run)) {
 }
 
 // scripts have Opens, Puts and Syncs in each order.
-var scripts = []string{"o", "os", "op", "ops", "opp", "opsp", "oppspps", "opospso", "opppopop", "opoposo", "ooosoo", "opsopopsop", "oppOppsOpp", "optpsptpOpsp", "oposOspsp", "opppsssppp", "opfpcpofpcp"}
+var scripts = []string{"o", "os", "op", "ops", "opp", "opsp", "oppspps", "opospso", "opppopop", "opoposo", "ooosoo", "opsopopsop", "oppOppsOpp", "optpsptpOpsp", "oposOspsp", "opppsssppp"}
+
+// orderly scripts have Flushes and Compacts too: of nothing, twice in a row, of what an earlier store has put, and behind Ticks that let some, all or none pass.
+var orderly = []string{"of", "oc", "off", "occ", "opf", "opc", "opff", "opcc", "oppfp", "opcop", "opof", "opsoc", "opfpc", "opfpf", "opcpc", "opfOc", "opttfc", "opttpc", "opftttc", "opftpOfc", "oqqf", "oqqqc", "oqfqOc"}

@@ -6,17 +6,18 @@ import (
 	"sync"
 
 	"tides/api"
+	"tides/archive"
 	"tides/disk"
 	"tides/files"
-	"tides/journal"
 	"tides/points"
 )
 
 // Store is a store that is open. All points that are alive stand in its rows, so that a question needs no disk, which might fail.
 type Store struct {
 	mutex    sync.Mutex
-	journal  *journal.Journal
+	archive  *archive.Archive
 	life     int
+	window   int
 	clock    int
 	readOnly bool
 	rows     [api.MaxSeries]points.Row
@@ -27,11 +28,11 @@ func Open(d *disk.Disk, c api.Config, clock int) (*Store, api.Errno) {
 	if !isSpan(c.Life) || !isSpan(c.Window) {
 		return nil, api.ErrConfig
 	}
-	j, puts, e := journal.Open(d)
+	a, puts, e := archive.Open(d)
 	if e != api.OK {
 		return nil, e
 	}
-	s := &Store{journal: j, life: c.Life, clock: clock}
+	s := &Store{archive: a, life: c.Life, window: c.Window, clock: clock}
 	for _, p := range puts {
 		s.keep(p)
 	}
@@ -78,21 +79,21 @@ func (s *Store) Tick(ticks int) api.Errno {
 func (s *Store) Sync() api.Errno {
 	s.mutex.Lock()
 	defer s.mutex.Unlock()
-	return s.change(s.journal.Sync)
+	return s.change(s.archive.Sync)
 }
 
 // Flush puts all in order on the disk (P8).
 func (s *Store) Flush() api.Errno {
 	s.mutex.Lock()
 	defer s.mutex.Unlock()
-	return s.change(nothing)
+	return s.change(func() api.Errno { return s.archive.Flush(s.window) })
 }
 
 // Compact makes room (P9).
 func (s *Store) Compact() api.Errno {
 	s.mutex.Lock()
 	defer s.mutex.Unlock()
-	return s.change(nothing)
+	return s.change(func() api.Errno { return s.archive.Compact(s.window, s.oldest()) })
 }
 
 // State tells how the store is (P10).
@@ -112,12 +113,9 @@ func (s *Store) change(call func() api.Errno) api.Errno {
 	return e
 }
 
-// nothing: what a call does that is not built yet.
-func nothing() api.Errno { return api.OK }
-
 // add puts a point on the disk, and keeps it if all of it lies there, whatever the disk answered: so Query tells what a later Open will find.
 func (s *Store) add(p files.Put) api.Errno {
-	took, e := s.journal.Add(p)
+	took, e := s.archive.Add(p)
 	if took {
 		s.keep(p)
 	}
