@@ -42,10 +42,7 @@ func NameOf(s Sort, number int) string {
 // Named tells the sort and the number (0, if its sort has none) that a name is made of: NoSort, if no store gives such a name.
 func Named(name string) (Sort, int) {
 	for s := NoSort + 1; int(s) < len(letters); s++ {
-		number, err := strconv.Atoi(strings.TrimPrefix(name, letters[s]))
-		if err != nil {
-			number = 0
-		}
+		number, _ := strconv.Atoi(strings.TrimPrefix(name, letters[s])) // no number of a file, where there is none
 		if isNumber(number) == isNumbered(s) && NameOf(s, number) == name {
 			return s, number
 		}

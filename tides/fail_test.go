@@ -2,6 +2,7 @@ package tides_test
 
 import (
 	"math"
+	"slices"
 	"strings"
 	"sync"
 	"testing"
@@ -13,16 +14,23 @@ import (
 // stands holds what is there behind failures to what Query told: behind each crash, behind a later Open, and behind a crash then.
 func (r *run) stands() {
 	r.Helper()
-	everyCrash(r.d, func(c *disk.Disk) { r.behind(c).does("opspO") })
+	crashes := 0
+	everyCrash(r.d, func(c *disk.Disk) {
+		crashes++
+		r.behind(c).does([]string{"opspO", "opfO", "pOco", "opcpfO"}[crashes%4])
+	})
 	r.does("o")
 	r.d.Fail(0, 0)
-	r.does("opOps")
-	everyCrash(r.d, func(c *disk.Disk) { r.behind(c) })
+	for _, script := range []string{"opOps", "pf", "oqpc"} {
+		n := r.other(r.d.Copy())
+		n.does("o" + script)
+		everyCrash(n.d, func(c *disk.Disk) { n.behind(c) })
+	}
 }
 
-// Each call of the disk that a Put, a Sync or an Open makes fails in turn, an Append with each part of its bytes.
+// Each call of the disk that a Put, a Sync, a Flush, a Compact or an Open makes fails in turn, an Append with each part of its bytes.
 func TestP10EachCallFails(t *testing.T) {
-	for _, script := range scripts {
+	for _, script := range slices.Concat(scripts, orderly) {
 		t.Run(script, func(t *testing.T) {
 			t.Parallel()
 			failures := 0
@@ -31,7 +39,7 @@ func TestP10EachCallFails(t *testing.T) {
 				r.does("t")
 				r.stands()
 			})
-			if strings.Contains(script, "p") && failures < 30 {
+			if strings.Contains(script, "p") && failures < 30 || failures < 2 && script != "o" {
 				t.Errorf("%d failures are too few", failures)
 			}
 		})
@@ -40,14 +48,19 @@ func TestP10EachCallFails(t *testing.T) {
 
 // What fails once may fail again: in the next store, which finds what the first has left.
 func TestP10FailsTwice(t *testing.T) {
-	for _, script := range []string{"op", "opsp", "opos", "opop"} {
+	for _, script := range []string{"op", "opsp", "opos", "opop", "opf", "opc", "opfpc", "oqcqf"} {
 		t.Run(script, func(t *testing.T) {
 			t.Parallel()
 			eachFailure(func() *run { return begin(t, 10000) }, script, func(first *run) {
-				eachFailure(func() *run { return first.other(first.d.Copy()) }, "opps", func(r *run) {
-					r.d.Crash(0, nil)
-					r.behind(r.d).does("psO")
-				})
+				for _, second := range []string{"opps", "opf", "oc"} {
+					eachFailure(func() *run { return first.other(first.d.Copy()) }, second, func(r *run) {
+						crashed := r.d.Copy()
+						crashed.Crash(0, nil)
+						r.behind(crashed).does("psO")
+						r.does("ofpc")
+						r.keeps()
+					})
+				}
 				eachFailure(func() *run { return first.other(first.d.Copy()) }, "osp", func(r *run) {
 					r.does("opso")
 					r.d.Crash(0, nil)
@@ -60,11 +73,11 @@ func TestP10FailsTwice(t *testing.T) {
 
 // A disk that has failed is cut then, at each call of the next store.
 func TestP10FailsThenIsCut(t *testing.T) {
-	for _, script := range []string{"op", "ops", "opsp", "opop"} {
+	for script, second := range map[string]string{"op": "opsp", "ops": "opsp", "opsp": "opsp", "opop": "opsp", "opf": "of", "opc": "oc", "opfpc": "ocs", "oqcqf": "of"} {
 		t.Run(script, func(t *testing.T) {
 			t.Parallel()
 			eachFailure(func() *run { return begin(t, 10000) }, script, func(first *run) {
-				eachCut(func() *run { return first.other(first.d.Copy()) }, "opsp", func(r *run) {
+				eachCut(func() *run { return first.other(first.d.Copy()) }, second, func(r *run) {
 					everyCrash(r.d, func(c *disk.Disk) { r.behind(c).does("pso") })
 				})
 			})
@@ -74,15 +87,17 @@ func TestP10FailsThenIsCut(t *testing.T) {
 
 // A disk fails behind a crash, which may have torn what lies there.
 func TestP10FailsBehindACrash(t *testing.T) {
-	r := begin(t, 10000)
-	r.does("opspopp")
-	everyCrash(r.d, func(c *disk.Disk) {
-		eachFailure(func() *run { return r.behind(c.Copy()) }, "pops", func(r *run) {
-			r.does("o")
-			r.d.Crash(0, nil)
-			r.behind(r.d).does("po")
+	for _, script := range [][2]string{{"opspopp", "pops"}, {"opfpp", "pf"}, {"opcpp", "c"}} {
+		r := begin(t, 10000)
+		r.does(script[0])
+		everyCrash(r.d, func(c *disk.Disk) {
+			eachFailure(func() *run { return r.behind(c.Copy()) }, script[1], func(r *run) {
+				r.does("o")
+				r.d.Crash(0, nil)
+				r.behind(r.d).does("pocf")
+			})
 		})
-	})
+	}
 }
 
 // A store that is read-only stays so when the power is cut too, and what its Query told stays.
@@ -107,13 +122,16 @@ func TestP10CutWhenReadOnly(t *testing.T) {
 
 // Rooms of every size: in each the disk is full at some Put, and behind each part of its bytes.
 func TestP10EachRoom(t *testing.T) {
-	for _, again := range []string{"p", "pps", "ppo", "pso", "psOpfc"} {
+	for again, step := range map[string]int{"p": 1, "pps": 3, "ppo": 3, "pso": 3, "pf": 7, "pc": 7, "qpOf": 7, "psOpfc": 7} {
 		t.Run(again, func(t *testing.T) {
 			t.Parallel()
-			for room := range 2*api.Need + 1 {
+			for room := 0; room <= 2*api.Need; room += step {
 				r := begin(t, room)
 				r.does("o")
 				for i := 0; !r.readOnly && r.d.Fulls() == 0; i++ {
+					if i > 40 && strings.Contains(again, "c") {
+						break // there is room for all points that are alive
+					}
 					if i > 2*room {
 						t.Fatalf("room %d is enough for %d Puts", room, i)
 					}
@@ -132,12 +150,18 @@ func TestP10EachRoom(t *testing.T) {
 
 // Where there is room for Need bytes a Put and a Sync are OK, whatever was done ahead of them.
 func TestP10NeedIsRoomEnough(t *testing.T) {
-	for _, script := range append([]string{"opopopopopop", "oppppppppppppppppppppp"}, scripts...) {
-		for _, more := range []string{"p", "s", "op", "os"} {
-			all := begin(t, 10000)
-			all.does(script)
-			r := begin(t, all.d.Used()+api.Need)
+	for _, script := range slices.Concat([]string{"opopopopopop", "oppppppppppppppppppppp"}, scripts, orderly) {
+		for _, more := range []string{"p", "s", "op", "os", "ops"} {
+			r := begin(t, 10000)
 			r.does(script)
+			if n := 10000 - r.d.Used() - api.Need; more[0] == 'o' {
+				d := disk.New(r.d.Used() + api.Need)
+				lay(d, r.d)
+				r.d, r.room = d, d.Used()+api.Need
+			} else {
+				r.d.Create("filler")
+				r.d.Append("filler", strings.Repeat("x", n))
+			}
 			if free := r.asked().free; free != api.Need {
 				t.Fatalf("%s: %d bytes are free, want Need", script, free)
 			}
@@ -151,28 +175,30 @@ func TestP10NeedIsRoomEnough(t *testing.T) {
 
 // A torn end that a failure has left does not make a later Put need more.
 func TestP10NeedBehindFailures(t *testing.T) {
-	for _, more := range []string{"op", "os"} {
-		eachFailure(func() *run { return begin(t, 10000) }, "oppsp", func(r *run) {
-			d := disk.New(r.d.Used() + api.Need)
-			lay(d, r.d)
-			n := r.other(d)
-			n.room = d.Used() + api.Need
-			n.does(more)
-			if n.readOnly {
-				t.Fatalf("%s behind a failure, with Need bytes free: the disk is full", more)
-			}
-		})
+	for _, script := range []string{"oppsp", "opfpc"} {
+		for _, more := range []string{"op", "os"} {
+			eachFailure(func() *run { return begin(t, 10000) }, script, func(r *run) {
+				d := disk.New(r.d.Used() + api.Need)
+				lay(d, r.d)
+				n := r.other(d)
+				n.room = d.Used() + api.Need
+				n.does(more)
+				if n.readOnly {
+					t.Fatalf("%s behind a failure, with Need bytes free: the disk is full", more)
+				}
+			})
+		}
 	}
 }
 
 // Where a disk fails that is full too, the answer is the disk's.
 func TestP10FullAndFailing(t *testing.T) {
-	for room := range 100 {
+	for room := 0; room < 100; room += 3 {
 		for n := 1; n <= 9; n++ {
 			for _, part := range []int{0, 1, 11, 20, 32, math.MaxInt, math.MinInt} {
 				r := begin(t, room)
 				r.d.Fail(n, part)
-				r.does("oppspopso")
+				r.does([]string{"oppspopso", "opfpcoc"}[room%2])
 				r.stands()
 			}
 		}
@@ -197,11 +223,14 @@ func TestP10MoreBytesThanRoom(t *testing.T) {
 		if n.readOnly {
 			t.Error("a Sync adds bytes")
 		}
-		n.does("p")
-		if !n.readOnly || c.Used() != used || c.Fulls() == 0 {
-			t.Errorf("Put on a disk that is more than full: %d bytes, before it %d", c.Used(), used)
+		for _, script := range []string{"p", "f", "c"} {
+			m := n.other(c.Copy())
+			m.does("o" + script)
+			if !m.readOnly || m.d.Used() != used || m.d.Fulls() == 0 {
+				t.Errorf("%s on a disk that is more than full: %d bytes, before it %d", script, m.d.Used(), used)
+			}
+			m.stands()
 		}
-		n.stands()
 	})
 	if over == 0 {
 		t.Error("no disk is more than full")
@@ -211,12 +240,18 @@ func TestP10MoreBytesThanRoom(t *testing.T) {
 // In each way that a store becomes read-only it answers the same then, though the disk fails no more.
 func TestP10ReadOnly(t *testing.T) {
 	for name, breaks := range map[string]func(*run){
-		"a Put fails":     func(r *run) { r.d.Fail(1, 7); r.does("p") },
-		"a Sync fails":    func(r *run) { r.d.Fail(1, 7); r.does("s") },
-		"a Put is full":   func(r *run) { r.does("pppppppppp") },
-		"a Put is cut":    func(r *run) { r.d.Cut(1); r.does("p") },
-		"a Sync is cut":   func(r *run) { r.d.Cut(2); r.does("s") },
-		"a Put goes dead": func(r *run) { r.d.Cut(1); r.d.SyncDir(); r.s.Put(0, 0, 0); r.readOnly = true },
+		"a Put fails":       func(r *run) { r.d.Fail(1, 7); r.does("p") },
+		"a Sync fails":      func(r *run) { r.d.Fail(1, 7); r.does("s") },
+		"a Put is full":     func(r *run) { r.does("pppppppppp") },
+		"a Put is cut":      func(r *run) { r.d.Cut(1); r.does("p") },
+		"a Sync is cut":     func(r *run) { r.d.Cut(2); r.does("s") },
+		"a Put goes dead":   func(r *run) { r.d.Cut(1); r.d.SyncDir(); r.s.Put(0, 0, 0); r.readOnly = true },
+		"a Flush fails":     func(r *run) { r.d.Fail(2, 7); r.does("f") },
+		"a Flush is full":   func(r *run) { r.does("ppppf") },
+		"a Flush is cut":    func(r *run) { r.d.Cut(5); r.does("f") },
+		"a Compact fails":   func(r *run) { r.does("c"); r.d.Fail(1, 7); r.does("c") },
+		"a Compact is full": func(r *run) { r.does("ppppc") },
+		"a Compact is cut":  func(r *run) { r.d.Cut(7); r.does("c") },
 	} {
 		r := begin(t, 150)
 		r.does("opps")
@@ -270,9 +305,9 @@ func TestP10QuestionsDoNotFail(t *testing.T) {
 	}
 }
 
-// A power cut in a Put or a Sync is answered ErrIO, all behind it ErrReadOnly, and Query tells the same from then on.
-func TestP10CutPutAndSync(t *testing.T) {
-	for _, script := range []string{"oppssps", "opopps", "opsoss"} {
+// A power cut in a Put, a Sync, a Flush or a Compact is answered ErrIO, all behind it ErrReadOnly, and Query tells the same from then on.
+func TestP10CutEachCall(t *testing.T) {
+	for _, script := range []string{"oppssps", "opopps", "opsoss", "opfpc", "oqqcqf", "ofcfc"} {
 		eachCut(func() *run { return begin(t, 10000) }, script, func(r *run) {
 			if !r.d.Dead() {
 				return
@@ -299,20 +334,22 @@ func TestP10CutPutAndSync(t *testing.T) {
 
 // Open of a disk that fails or is full is answered ErrIO or ErrFull, or gives all that there is; and the next Open gives it.
 func TestP3OpenOfAFailingDisk(t *testing.T) {
-	for _, script := range scripts {
-		for _, torn := range []int{0, 1, 4} { // the call of a last Put that fails; 0: none
-			begun := func() *run {
-				r := begin(t, 10000)
-				r.does(script)
-				r.d.Fail(torn, 8)
-				r.does("p")
-				r.d.Fail(0, 0)
-				return r
+	for _, script := range slices.Concat(scripts, orderly) {
+		for _, last := range []string{"p", "f", "c"} {
+			for _, torn := range []int{0, 1, 4, 7} { // which call fails of what is done last; 0: none
+				begun := func() *run {
+					r := begin(t, 10000)
+					r.does(script)
+					r.d.Fail(torn, 8)
+					r.does(last)
+					r.d.Fail(0, 0)
+					return r
+				}
+				eachFailure(begun, "o", func(r *run) {
+					r.stands()
+					r.does("Oo")
+				})
 			}
-			eachFailure(begun, "o", func(r *run) {
-				r.stands()
-				r.does("Oo")
-			})
 		}
 	}
 }
@@ -387,7 +424,7 @@ func TestP10ManyFailures(t *testing.T) {
 		for range 15 {
 			script := ""
 			for range x.below(14) {
-				script += string("ppppppsstofcO"[x.below(13)])
+				script += string("pppqqqsstofcO"[x.below(13)])
 			}
 			if x.below(3) > 0 {
 				r.d.Fail(1+x.below(20), x.below(100))

@@ -7,6 +7,7 @@ import (
 
 	"tides/api"
 	"tides/disk"
+	"tides/files"
 )
 
 // kept: how many points a store keeps in memory.
@@ -62,5 +63,36 @@ func TestEachCallWaitsForTheMutex(t *testing.T) {
 		}
 		s.mutex.Unlock()
 		<-ended
+	}
+}
+
+// A Flush and a Compact make segments for the store's own windows, and keep what is dead as long as its window has something that is alive.
+func TestWindowsAreTheStores(t *testing.T) {
+	for _, c := range []struct{ window, made, left int }{{1, 3, 2}, {5, 3, 2}, {9, 2, 1}, {10, 2, 2}, {11, 1, 1}, {1 << 62, 1, 1}} {
+		d := disk.New(1 << 20)
+		s, _ := Open(d, api.Config{Life: 100, Window: c.window}, 0)
+		for _, time := range []int{0, 9, 10} {
+			s.Put(3, time, time)
+		}
+		count := func() int {
+			n := 0
+			for _, name := range d.List() {
+				if sort, _ := files.Named(name); sort == files.SegmentSort {
+					n++
+				}
+			}
+			return n
+		}
+		if e := s.Flush(); e != api.OK || count() != c.made {
+			t.Errorf("Window %d: Flush = %d makes %d segments, want %d", c.window, e, count(), c.made)
+		}
+		s.Tick(101) // what has the time 0 is dead
+		if e := s.Compact(); e != api.OK || count() != c.left {
+			t.Errorf("Window %d: Compact = %d leaves %d segments, want %d", c.window, e, count(), c.left)
+		}
+		s.Tick(100)
+		if e := s.Compact(); e != api.OK || count() != 0 {
+			t.Errorf("Window %d: Compact = %d of dead points leaves %d segments", c.window, e, count())
+		}
 	}
 }

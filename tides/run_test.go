@@ -3,6 +3,8 @@ package tides_test
 import (
 	"cmp"
 	"math/big"
+	"os"
+	"runtime/debug"
 	"slices"
 	"strconv"
 	"strings"
@@ -12,6 +14,12 @@ import (
 	"tides/disk"
 	"tides/tides"
 )
+
+// The tests make very many disks, and keep few of them.
+func TestMain(m *testing.M) {
+	debug.SetGCPercent(800)
+	os.Exit(m.Run())
+}
 
 // everyCrash gives each disk that a crash may leave of one: with each beginning of what was done to the directory, and of each file's bytes, one by one and together. A disk behind a crash is all in its names and bytes: so none is given twice.
 func everyCrash(d *disk.Disk, check func(*disk.Disk)) {

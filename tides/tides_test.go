@@ -136,6 +136,8 @@ func TestP1AllNumbers(t *testing.T) {
 			}
 			for _, x := range edges {
 				s.Tick(x)
+				s.Flush()
+				s.Compact()
 			}
 			is(t, s, false, greatest)
 		}
@@ -447,8 +449,13 @@ func TestAgainstTheModel(t *testing.T) {
 				tick(t, s, n)
 				m.clock += n
 			case 5:
-				if r.below(5) == 0 {
+				switch r.below(9) {
+				case 0:
 					s = open(t, d, m.life, 1+r.below(9), m.clock)
+				case 1:
+					flush(t, s)
+				case 2:
+					compact(t, s)
 				}
 			default:
 				to := time + r.below(60) - 10
@@ -471,8 +478,8 @@ func TestManyGoroutines(t *testing.T) {
 				if l, _ := s.Query(k, 0, greatest); len(l) != i+1 {
 					t.Errorf("series %d has %d points behind %d Puts", k, len(l), i+1)
 				}
-				if e := s.Sync(); e != api.OK {
-					t.Errorf("Sync = %d", e)
+				if e, f, c := s.Sync(), s.Flush(), s.Compact(); e != api.OK || f != e || c != e {
+					t.Errorf("Sync = %d, Flush = %d, Compact = %d", e, f, c)
 				}
 				s.State()
 			}
