@@ -32,8 +32,8 @@ func (f *file) add(data string) (bool, api.Errno) {
 	return after-before == len(piece), e
 }
 
-// write makes a file of one piece, and makes it safe.
-func (f *file) write(data string) api.Errno {
+// write makes a file of one piece, and makes it safe. (The sum goes on in a copy: the next to write or read begins anew.)
+func (f file) write(data string) api.Errno {
 	if e := f.create(); e != api.OK {
 		return e
 	}
@@ -53,7 +53,7 @@ func (f *file) all() (string, api.Errno) {
 }
 
 // read gives the data of a file of one piece.
-func (f *file) read() (string, api.Errno) {
+func (f file) read() (string, api.Errno) {
 	text, e := f.all()
 	if e != api.OK {
 		return "", e

@@ -19,8 +19,7 @@ type Index struct {
 // ReadIndex gives the index of a disk. Where none was written yet, no segment and every log counts.
 func ReadIndex(d *disk.Disk) (*Index, api.Errno) {
 	x := &Index{file: fileOf(d, IndexSort, 0), FirstLog: 1}
-	f := x.file
-	data, e := f.read()
+	data, e := x.read()
 	if e == api.ErrName {
 		return x, api.OK
 	}
@@ -40,7 +39,7 @@ func ReadIndex(d *disk.Disk) (*Index, api.Errno) {
 	return x, api.OK
 }
 
-// Turn lets other segments and logs count, from one moment on: what is safe of a disk has the index as it was, or as it is then. A draft must not lie there.
+// Turn lets other segments and logs count, from one call of the disk on: whatever a crash leaves is the index as it was, or as it is then. No draft must lie there.
 func (x *Index) Turn(firstLog int, segments []int) api.Errno {
 	var b strings.Builder
 	b.WriteString(intBytes(firstLog))

@@ -32,7 +32,7 @@ func NewSegment(d *disk.Disk, number int, points []Put) (*Segment, api.Errno) {
 	return s, api.OK
 }
 
-// ReadSegment gives the segment of a number.
+// ReadSegment gives the segment of a number. It counts: so if it is not there, the disk is spoilt.
 func ReadSegment(d *disk.Disk, number int) (*Segment, api.Errno) {
 	s := segmentOf(d, number)
 	data, e := s.read()
